@@ -1,0 +1,1 @@
+"""Releases: packages of one tree, given out each by itself."""
