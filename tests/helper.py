@@ -6,6 +6,8 @@ BEGINS = [0, 0, 0]
 LOOK = [3, 0, 0]
 PLAN = [4, 0, 0]
 READY = [5, 0, 0]
+DROP = [7, 0, 0]
+TREE = [11, 0, 0]
 
 
 def package(version, group=0, needs=()):
@@ -21,6 +23,27 @@ def note(level, packages):
 
 def need(on, kind, version):
     return (on, kind, *version)
+
+
+def out(on):
+    return [6, 1, on, 0]
+
+
+def yank(on, version):
+    return [8, 4, on, *version, 0]
+
+
+def resolve(on, version):
+    return [9, 4, on, *version, 0]
+
+
+def log(on):
+    return [10, 1, on, 0]
+
+
+def given(*packages):
+    """A plan, and these packages' steps out in this order."""
+    return [PLAN, *[out(on) for on in packages]]
 
 
 def joined(calls):
@@ -56,5 +79,21 @@ def step(on, level, version):
     return [on, level, *version]
 
 
-def told_steps(*steps):
-    return [len(steps)] + joined(steps)
+def came_out(version, notes=(), withdrawn=0):
+    """A version as log tells it."""
+    return [*version, withdrawn, len(notes), *notes]
+
+
+def found(on, version):
+    """What's found for a need, as resolve tells it."""
+    return [on, *version]
+
+
+def in_tree(version, waiting=0):
+    """A package as tree tells it."""
+    return [*version, waiting]
+
+
+def listed(*parts):
+    """How many they are, then they."""
+    return [len(parts)] + joined(parts)

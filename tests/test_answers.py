@@ -20,6 +20,12 @@ class Shape(unittest.TestCase):
         self.assertEqual(answers([3, 0, 0]), [1, 0])
         self.assertEqual(answers([4, 0, 0]), [1, 0])
         self.assertEqual(answers([5, 0, 0]), [1, 0])
+        self.assertEqual(answers([6, 1, 0, 0]), [1, -4])
+        self.assertEqual(answers([7, 0, 0]), [1, -3])
+        self.assertEqual(answers([8, 4, 0, 1, 0, 0, 0]), [1, -2])
+        self.assertEqual(answers([9, 4, 0, 1, 0, 0, 0]), [1, -2])
+        self.assertEqual(answers([10, 1, 0, 0]), [1, -2])
+        self.assertEqual(answers([11, 0, 0]), [1, 0])
 
     def test_several_calls(self):
         calls = [
@@ -38,6 +44,32 @@ class Shape(unittest.TestCase):
         ]
         steps = [16, 3, 0, 3, 2, 0, 0, 1, 1, 1, 0, 1, 2, 1, 1, 0, 1]
         told = [1, 0, 1, 1, 1, 2, 1, 0, 1, 1, 1, -1] + steps + steps + [1, -3, 2, 1, 0, 1, 0, 1, 0]
+        self.assertEqual(answers(calls), told)
+
+    def test_several_calls_on_what_is_out(self):
+        calls = [
+            1, 4, 1, 2, 3, 0, 0,
+            1, 4, 1, 0, 0, 0, 1, 5, 0, 0, 1, 2, 3,
+            2, 1, 2, 1, 1, 0,
+            4, 0, 0,
+            6, 1, 1, 0,
+            6, 1, 0, 0,
+            8, 4, 0, 1, 2, 3, 0,
+            8, 4, 0, 1, 3, 0, 0,
+            2, 1, 1, 1, 1, 1,
+            7, 0, 0,
+            11, 0, 0,
+            4, 0, 0,
+            6, 1, 1, 0,
+            8, 4, 1, 1, 0, 0, 0,
+            9, 4, 1, 1, 0, 0, 0,
+            9, 4, 1, 1, 0, 1, 0,
+            10, 1, 1, 0,
+            7, 0, 0,
+        ]
+        told = [1, 0, 1, 1, 1, 0, 11, 2, 0, 2, 1, 3, 0, 1, 1, 1, 0, 1, 1, -5, 1, 1, 1, -6, 1, -4, 1, 1, 2, 1, 1]
+        told += [9, 2, 1, 3, 0, 0, 1, 0, 0, 1, 6, 1, 1, 1, 1, 0, 1, 1, 0, 1, 0, 1, -2, 5, 1, 0, 1, 3, 0]
+        told += [12, 2, 1, 0, 0, 1, 0, 1, 0, 1, 0, 1, 1, 1, -3]
         self.assertEqual(answers(calls), told)
 
     def test_refused_calls_are_read_to_their_end(self):

@@ -22,7 +22,7 @@ NamedTuple TypedDict TYPE_CHECKING abstractmethod""".split()
 LEFT_OUT = (
     ast.With, ast.Match, ast.Delete, ast.Global, ast.Nonlocal, ast.Assert, ast.Yield, ast.YieldFrom, ast.Await,
     ast.AsyncFor, ast.AsyncWith, ast.AsyncFunctionDef, ast.Import, ast.AnnAssign, ast.NamedExpr, ast.Starred,
-    ast.SetComp, ast.DictComp, ast.GeneratorExp, ast.Set, ast.Div, ast.MatMult, ast.Is, ast.IsNot,
+    ast.SetComp, ast.DictComp, ast.GeneratorExp, ast.Set, ast.Div, ast.MatMult,
 )
 
 
@@ -62,6 +62,11 @@ class Forms(unittest.TestCase):
     def test_left_out(self):
         for name, node in nodes(LEFT_OUT):
             self.fail(f"{name}, line {getattr(node, 'lineno', '?')}: {ast.dump(node)}")
+
+    def test_is_stands_beside_none_alone(self):
+        for name, node in nodes(ast.Compare):
+            if any(isinstance(sign, (ast.Is, ast.IsNot)) for sign in node.ops):
+                self.assertEqual([ast.unparse(one) for one in node.comparators], ["None"], name)
 
     def test_loops_and_targets(self):
         for name, node in nodes((ast.For, ast.While)):
@@ -108,6 +113,15 @@ class Names(unittest.TestCase):
         for name, node in nodes(ast.arg):
             self.assertRegex(node.arg, r"^[A-Za-z][A-Za-z0-9_]*$", name)
             self.assertFalse(hasattr(builtins, node.arg), node.arg)
+
+    def test_locals_are_called_like_no_class_and_no_import(self):
+        for name, tree in trees():
+            drawn = {one.name for node in tree.body if isinstance(node, ast.ImportFrom) for one in node.names}
+            drawn |= {node.name for node in tree.body if isinstance(node, ast.ClassDef)}
+            names = [node for node in ast.walk(tree) if isinstance(node, ast.Name)]
+            bound = {node.id for node in names if isinstance(node.ctx, ast.Store)}
+            bound |= {node.arg for node in ast.walk(tree) if isinstance(node, ast.arg)}
+            self.assertEqual(drawn & bound, set(), name)
 
     def test_methods(self):
         for name, node in nodes(ast.Call):

@@ -4,7 +4,7 @@ import itertools
 import random
 import unittest
 
-from treegiven.house import answer_look
+from treegiven.plans import answer_look
 from treegiven.state import House, Package
 from treegiven.steps import least_levels, steps_now
 from treegiven.versions import Need

@@ -2,9 +2,10 @@
 
 import unittest
 
-from tests.helper import BEGINS, LOOK, PLAN, READY, ask, last, note, package, step, told_steps
-from treegiven.house import answer_note, answer_package, answer_plan, answer_ready
+from tests.helper import BEGINS, LOOK, PLAN, READY, ask, last, note, package, step, listed
+from treegiven.plans import answer_plan, answer_ready
 from treegiven.state import House
+from treegiven.tree import answer_note, answer_package
 
 MOST = 4294967295
 ONE = (1, 0, 0)
@@ -26,7 +27,7 @@ class Accepted(unittest.TestCase):
 
     def test_waits_just_where_it_is_about(self):
         told = last(*[package(ONE)] * 4, note(2, [1, 3]), LOOK)
-        self.assertEqual(told, told_steps(step(1, 2, (1, 1, 0)), step(3, 2, (1, 1, 0))))
+        self.assertEqual(told, listed(step(1, 2, (1, 1, 0)), step(3, 2, (1, 1, 0))))
 
 
 class Refused(unittest.TestCase):
@@ -77,13 +78,13 @@ class AfterARefusal(unittest.TestCase):
 
     def test_the_thirty_first_waits_nowhere(self):
         told = last(*TWO, *THIRTY, note(3, [1]), LOOK)
-        self.assertEqual(told, told_steps(step(0, 1, (1, 0, 1))))
+        self.assertEqual(told, listed(step(0, 1, (1, 0, 1))))
 
 
 class WhilePlanned(unittest.TestCase):
     def test_is_taken_and_leaves_the_plan(self):
         told = ask(*TWO, note(1, [0]), PLAN, note(3, [0, 1]), READY, PLAN, LOOK)
-        self.assertEqual(told[3:], [told_steps(step(0, 1, (1, 0, 1))), [1], [1, 0], [-3], [-3]])
+        self.assertEqual(told[3:], [listed(step(0, 1, (1, 0, 1))), [1], [1, 0], [-3], [-3]])
 
     def test_is_refused_as_ever(self):
         told = ask(*TWO, note(1, [0]), PLAN, note(0, [0]), note(1, [2]))

@@ -2,9 +2,9 @@
 
 import unittest
 
-from tests.helper import LOOK, PLAN, READY, ask, last, need, note, package, step, told_steps
-from treegiven.house import answer_package
+from tests.helper import LOOK, PLAN, READY, ask, last, need, note, package, step, listed
 from treegiven.state import House
+from treegiven.tree import answer_package
 
 MOST = 4294967295
 ONE = (1, 0, 0)
@@ -150,7 +150,7 @@ class AfterARefusal(unittest.TestCase):
     def test_the_steps_stay(self):
         tree = [package(ONE), note(2, [0])]
         refused = [package(ONE, 0, [need(0, 0, (1, 0, 1))]), package(ONE, 1001)]
-        self.assertEqual(last(*tree, *refused, LOOK), told_steps(step(0, 2, (1, 1, 0))))
+        self.assertEqual(last(*tree, *refused, LOOK), listed(step(0, 2, (1, 1, 0))))
 
     def test_the_plan_stays(self):
         told = ask(package(ONE), *A_PLAN, package(ONE), READY, PLAN)

@@ -2,10 +2,11 @@
 
 import unittest
 
-from tests.helper import LOOK, PLAN, READY, ask, last, need, note, package, step, told_steps
-from treegiven.house import answer_look, answer_note, answer_package
+from tests.helper import LOOK, PLAN, READY, ask, last, need, note, package, step, listed
+from treegiven.plans import answer_look
 from treegiven.state import House
 from treegiven.steps import steps_now
+from treegiven.tree import answer_note, answer_package
 from treegiven.versions import Need
 
 ONE = (1, 0, 0)
@@ -16,8 +17,8 @@ class Steps(unittest.TestCase):
     def check(self, tree, *steps):
         """look and plan both tell these steps."""
         told = ask(*tree, LOOK, PLAN)
-        self.assertEqual(told[-2], told_steps(*steps))
-        self.assertEqual(told[-1], told_steps(*steps))
+        self.assertEqual(told[-2], listed(*steps))
+        self.assertEqual(told[-1], listed(*steps))
 
     def test_no_packages(self):
         self.check([])
@@ -113,7 +114,7 @@ class Steps(unittest.TestCase):
 class LookAndPlan(unittest.TestCase):
     def test_look_makes_no_plan(self):
         told = ask(package(ONE), note(1, [0]), LOOK, READY, LOOK, package(ONE))
-        self.assertEqual(told[2:], [told_steps(step(0, 1, MENDED)), [0], told_steps(step(0, 1, MENDED)), [1]])
+        self.assertEqual(told[2:], [listed(step(0, 1, MENDED)), [0], listed(step(0, 1, MENDED)), [1]])
 
     def test_refused_if_there_is_a_plan(self):
         told = ask(package(ONE), note(1, [0]), PLAN, LOOK, PLAN, READY)
@@ -121,7 +122,7 @@ class LookAndPlan(unittest.TestCase):
 
     def test_plan_with_no_steps_leaves_none(self):
         told = ask(package(ONE), PLAN, PLAN, LOOK, READY, note(1, [0]), PLAN, LOOK)
-        self.assertEqual(told[1:], [[0], [0], [0], [0], [0], told_steps(step(0, 1, MENDED)), [-3]])
+        self.assertEqual(told[1:], [[0], [0], [0], [0], [0], listed(step(0, 1, MENDED)), [-3]])
 
     def test_plan_leaves_the_tree(self):
         house = House()

@@ -2,7 +2,7 @@
 
 import unittest
 
-from tests.helper import LOOK, last, need, note, package, step, told_steps
+from tests.helper import LOOK, last, need, note, package, step, listed
 from treegiven.versions import Need, holds, raised
 
 RAISED = [
@@ -53,7 +53,7 @@ class Raising(unittest.TestCase):
         for version, level, higher in RAISED:
             with self.subTest(version=version, level=level):
                 told = last(package(version), note(level, [0]), LOOK)
-                self.assertEqual(told, told_steps(step(0, level, higher)))
+                self.assertEqual(told, listed(step(0, level, higher)))
 
 
 class Holding(unittest.TestCase):

@@ -8,6 +8,7 @@ class Release:
         self.version = version
         self.needs = needs
         self.notes = notes
+        self.withdrawn = False
 
 
 class Package:
